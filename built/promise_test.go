@@ -71,7 +71,12 @@ func TestType(t *testing.T) {
 		for range 1000 {
 			l := someArguments(r, f)
 			values, types := parted(l)
-			of := typeOfKind(r, f, slices.Clone(l))
+			of, is := typeOfKind(r, f, l)
+			if !is {
+				of = someType(r)
+				refusesCall(t, f.name, values, types, of, api.ErrKind)
+				continue
+			}
 			v, raise, e := built.Call(f.name, values, types, of)
 			if !digit.Has(of, v) || e != api.OK {
 				t.Errorf("Call(%q, %+v, %+v) = %+v, %d", f.name, l, of, v, e)
@@ -190,7 +195,12 @@ func TestSameAgain(t *testing.T) {
 		for range 100 {
 			l := someArguments(r, f)
 			values, types := parted(l)
-			of := typeOfKind(r, f, slices.Clone(l))
+			of, is := typeOfKind(r, f, l)
+			if !is {
+				of = someType(r)
+				refusesCall(t, f.name, values, types, of, api.ErrKind)
+				continue
+			}
 			v, raise, e := built.Call(f.name, values, types, of)
 			for range 3 {
 				if w, again, e2 := built.Call(f.name, values, types, of); w != v || again != raise || e2 != e {

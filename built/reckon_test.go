@@ -362,11 +362,14 @@ func TestCallsBySecondReckoning(t *testing.T) {
 			l := someArguments(r, f)
 			values, types := parted(l)
 			of, e := built.Result(f.name, types, values)
-			if e == api.ErrRange {
-				of = typeOfKind(r, f, l)
-			} else if e != api.OK {
+			switch is := true; {
+			case e == api.ErrRange:
+				if of, is = typeOfKind(r, f, l); !is {
+					continue
+				}
+			case e != api.OK:
 				t.Fatalf("Result(%q, %+v) = %d", f.name, l, e)
-			} else if r.Intn(2) == 0 {
+			case r.Intn(2) == 0:
 				of = someTypeOf(r, of.Kind)
 			}
 			value, raise := reckonedCall(f.name, l, of)
@@ -381,16 +384,20 @@ func TestCallsBySecondReckoning(t *testing.T) {
 	}
 }
 
-// typeOfKind is a type of the kind of the result where p, q or n are out of range.
-func typeOfKind(r *rand.Rand, f function, l []typed) api.Type {
-	values, types := parted(l)
-	for _, at := range f.known {
-		if at < len(l) {
-			values[at], types[at] = vdec(1, 0), tdec(1, 0)
+// typeOfKind is a type of the kind of the result, whatever p, q and n are; none if all of them are out of range.
+func typeOfKind(r *rand.Rand, f function, l []typed) (of api.Type, is bool) {
+	_, types := parted(l)
+	kind := someKindOf(f, types, func(of api.Type) []api.Value {
+		var values []api.Value
+		for n := range 3 {
+			values = append(values, countingOf(n, of)...)
 		}
+		return values
+	})
+	if kind == 0 {
+		return api.Type{}, false
 	}
-	of, _ := built.Result(f.name, types, values)
-	return someTypeOf(r, of.Kind)
+	return someTypeOf(r, kind), true
 }
 
 // inRange is a type, or none where it is not valid.

@@ -86,8 +86,23 @@ func countsOf(known []api.Value, types []api.Type) func(at int) int {
 	}
 }
 
-// one is what stands for each argument where any would do.
-func one(int) int { return 1 }
+// likeliest is what the values of arguments may count of which a valid type comes, if one comes of any: 1, or 0 where all values count 0. A precision is from 1 on; a scale or a length may be either.
+func likeliest(types []api.Type) func(at int) int {
+	return func(at int) int {
+		if reachesOne(types[at]) {
+			return 1
+		}
+		return 0
+	}
+}
+
+// reachesOne reports whether a value of a type counts 1: of strings all but the empty one have room for it, and numbers that have a digit ahead of the point.
+func reachesOne(t api.Type) bool {
+	if isString(t) {
+		return t.N > 0
+	}
+	return t.P > t.Q
+}
 
 func isKnown(v api.Value) bool { return v.Kind != 0 }
 

@@ -70,7 +70,8 @@ func (f row) takesSoMany(n int) bool { return f.least <= n && n <= f.most }
 // role is what an argument is taken as.
 func (f row) role(at int) role { return f.takes[min(at, len(f.takes)-1)] }
 
-// kind is the kind of the results for arguments of some types. No argument's value changes it.
-func (f row) kind(types []api.Type) int {
-	return f.result(signature{types: types, count: one}).Kind
+// kind is the kind of the results for arguments of some types, whatever their values are; it is none if no values make a valid type.
+func (f row) kind(types []api.Type) (kind int, is bool) {
+	t := f.result(signature{types: types, count: likeliest(types)})
+	return t.Kind, digit.Valid(t)
 }
