@@ -113,7 +113,7 @@ func smallTypes() []api.Type {
 		}
 		l = append(l, tdec(1, q), tdec(2, q))
 	}
-	l = append(l, tfloat(1), tfloat(2))
+	l = append(l, tfloat(1))
 	for n := range 6 {
 		l = append(l, tbit(n), vary(tbit(n)))
 	}
